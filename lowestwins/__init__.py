@@ -1,0 +1,1 @@
+"""A wire on which the lowest wins."""
