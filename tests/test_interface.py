@@ -47,12 +47,13 @@ class Interface(unittest.TestCase):
             self.assertIs(type(number), int)
 
     def test_as_many_calls_as_there_may_be(self):
-        self.assertEqual(answers([0] + [2] * 13999), [1, 0] + [1, 1] * 13999)
+        # Told as a truth, since a difference of long lists takes unittest minutes to write out.
+        self.assertTrue(answers([0] + [2] * 13999) == [1, 0] + [1, 1] * 13999)
 
     def test_as_long_a_list_as_there_may_be(self):
         pair = [0, 1, 2047, 8, 8] + [255] * 8
         times = 30000 // len(pair)
-        self.assertEqual(answers(pair * times), [1, 0, 1, 0] * times)
+        self.assertTrue(answers(pair * times) == [1, 0, 1, 0] * times)
 
     def test_a_number_that_no_call_has(self):
         for number in (-1, 6, 100):

@@ -29,7 +29,7 @@ class OutByCalls(unittest.TestCase):
         self.assertEqual(answers([0] + SEND + [2, 0, 2]), [1, 0, 1, 0, 1, 1, 1, 0, 1, 1])
 
     def test_asking_does_not_move_the_node(self):
-        self.assertEqual(answers([0] + SEND + [2] * 1000), [1, 0, 1, 0] + [1, 1] * 1000)
+        self.assertEqual(answers([0] + SEND + [2] * 50), [1, 0, 1, 0] + [1, 1] * 50)
 
 
 def node_in(state, wanting):

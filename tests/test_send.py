@@ -42,7 +42,8 @@ class Taken(unittest.TestCase):
         calls = []
         for name in range(2048):
             calls += [0] + send(name, [])
-        self.assertEqual(answers(calls), [1, 0] * 4096)
+        # Told as a truth, since a difference of long lists takes unittest minutes to write out.
+        self.assertTrue(answers(calls) == [1, 0] * 4096)
 
     def test_bytes_that_look_like_calls(self):
         calls = send(5, [0, 1, 2, 3, 4, 5, 0, 0]) + [2]
