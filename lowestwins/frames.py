@@ -8,6 +8,12 @@ LENGTH_BITS = 4
 BYTE_BITS = 8
 SUM_BITS = 15
 
+# The first 0 and the name: the bits in which one frame may win over another.
+RANK_BITS = 12
+# Behind the three 0.
+LENGTH_AT = 15
+HEAD_BITS = 19
+
 # x^14 + x^10 + x^8 + x^7 + x^4 + x^3 + 1: the term x^15 falls out of the sum's fifteen bits.
 SUM_POLYNOMIAL = 0x4599
 SUM_MASK = 0x7FFF
@@ -23,6 +29,14 @@ def may_be_sent(name, length):
 def bits_of(number, width):
     """The number's lowest bits, so many as the width, the highest first."""
     return [(number >> place) & 1 for place in range(width - 1, -1, -1)]
+
+
+def number_of(bits):
+    """The number that these bits are, the highest first."""
+    number = 0
+    for bit in bits:
+        number = number * 2 + bit
+    return number
 
 
 def sum_with(total, bit):

@@ -2,12 +2,28 @@
 
 import unittest
 
+from helper import BEGIN, BEHIND_ERROR, BETWEEN, CONFIRMED, OUT, TO_IDLE, WAITING
+from helper import Asked, frame, hear, hearing, idle, send
 from lowestwins.node import answers
-from lowestwins.wire import IN_FRAME, WAITING, Node
+from lowestwins.wire import Node
 
-BEGIN = [0]
-SEND = [1, 5, 1, 1, 255]
-OUT = [2]
+SEND = send(5, [255])
+
+HISTORIES = (
+    hearing([1] * 10),
+    [SEND] + hearing([1] * 10),
+    hearing(TO_IDLE),
+    hearing(TO_IDLE) + [SEND],
+    hearing(TO_IDLE + [0]),
+    hearing(TO_IDLE) + [SEND] + hearing([0, 0, 0]),
+    hearing(TO_IDLE + frame(5, [255]) + [1]),
+    [SEND] + hearing(TO_IDLE + frame(5, [255]) + [1]),
+    hearing(TO_IDLE + frame(6) + CONFIRMED + BETWEEN),
+    hearing(TO_IDLE + [0] * 6),
+    [SEND] + hearing(TO_IDLE + [0, 1] + [0] * 3),
+    [send(2047)] + hearing(TO_IDLE + frame(6) + CONFIRMED),
+    [send(0)] + hearing(TO_IDLE + ([0, 1] + BEHIND_ERROR) * 32),
+)
 
 
 class Begin(unittest.TestCase):
@@ -29,30 +45,38 @@ class Begin(unittest.TestCase):
     def test_a_node_at_first_puts_1(self):
         self.assertEqual(answers(BEGIN + OUT + BEGIN + OUT), [1, 0, 1, 1] * 2)
 
-    def assert_is_at_first(self, node):
-        self.assertEqual(node.state, WAITING)
-        self.assertEqual(node.ones, 0)
-        self.assertIsNone(node.wanted)
-        self.assertIsNone(node.got)
-        self.assertEqual(node.sender_errors, 0)
-        self.assertEqual(node.hearer_errors, 0)
-        self.assertIs(node.is_sender, False)
+    def test_a_node_at_first(self):
+        self.assertEqual(Asked().all_of_it(), (WAITING, 1, (0, 0), [-1], False))
 
-    def test_a_new_node_is_at_first(self):
-        self.assert_is_at_first(Node())
+    def test_whatever_was_before_it_is_as_at_first(self):
+        later = hearing(TO_IDLE[:10] + [0] + TO_IDLE + frame(9, [8]) + CONFIRMED + BETWEEN + [0] * 6 + BEHIND_ERROR)
+        later += [SEND] + hearing(frame(5, [255]) + CONFIRMED)
+        expected = Asked().ask(*later)
+        for history in HISTORIES:
+            node = Asked(*history)
+            self.assertEqual(node.one(BEGIN), 0)
+            self.assertEqual(node.all_of_it(), (WAITING, 1, (0, 0), [-1], False))
+            self.assertTrue(node.ask(*later) == expected)
 
-    def test_begin_forgets_all_of_a_node(self):
-        node = Node()
-        node.send(5, 0, [])
-        node.state = IN_FRAME
-        node.ones = 3
-        node.got = [0, 5, 0]
-        node.sender_errors = 8
-        node.hearer_errors = 1
-        node.is_sender = True
-        self.assertEqual(node.begin(), 0)
-        self.assert_is_at_first(node)
-        self.assertEqual(vars(node), vars(Node()))
+    def test_it_counts_ones_from_none(self):
+        node = Asked(*hearing([1] * 10), BEGIN, *hearing([1] * 10))
+        self.assertEqual(node.state(), WAITING)
+
+    def test_nothing_at_all_is_left(self):
+        for history in HISTORIES:
+            node = Node()
+            for call in history:
+                if call[0] == 1:
+                    node.send(call[1], call[2], call[4:])
+                else:
+                    node.hear(call[1])
+            self.assertNotEqual(vars(node), vars(Node()))
+            self.assertEqual(node.begin(), 0)
+            self.assertEqual(vars(node), vars(Node()))
+
+    def test_a_begin_within_a_frame_forgets_that_it_was_the_sender(self):
+        node = idle(send(0), hear(0), BEGIN, *hearing(TO_IDLE + [0]))
+        self.assertEqual(node.out(), 1)
 
 
 if __name__ == "__main__":

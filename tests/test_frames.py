@@ -2,20 +2,8 @@
 
 import unittest
 
-from lowestwins.frames import frame_bits, stuffed, sum_of
-
-
-def bits(text):
-    return [int(sign) for sign in text if sign != " "]
-
-
-def divided(row):
-    """The remainder by long division, as the document words it."""
-    divisor = sum(1 << power for power in (15, 14, 10, 8, 7, 4, 3, 0))
-    rest = int("".join(str(bit) for bit in row), 2) << 15
-    while rest.bit_length() > 15:
-        rest ^= divisor << (rest.bit_length() - 16)
-    return rest
+from helper import bits, remainder
+from lowestwins.frames import bits_of, frame_bits, number_of, stuffed, sum_of
 
 
 class Sum(unittest.TestCase):
@@ -30,7 +18,7 @@ class Sum(unittest.TestCase):
     def test_agrees_with_long_division(self):
         for name in range(0, 2048, 13):
             row = frame_bits(name, [name % 256, name * 7 % 256])
-            self.assertEqual(int("".join(map(str, row[-15:])), 2), divided(row[:-15]))
+            self.assertEqual(int("".join(map(str, row[-15:])), 2), remainder(row[:-15]))
 
 
 class Bits(unittest.TestCase):
@@ -46,6 +34,12 @@ class Bits(unittest.TestCase):
 
     def test_all_zeros(self):
         self.assertEqual(frame_bits(0, []), [0] * 34)
+
+
+    def test_numbers_of_bits(self):
+        self.assertEqual(number_of([]), 0)
+        for number in (0, 1, 2, 1023, 1024, 2046, 2047):
+            self.assertEqual(number_of(bits_of(number, 11)), number)
 
 
 class Stuffed(unittest.TestCase):

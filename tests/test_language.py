@@ -100,6 +100,16 @@ class Language(unittest.TestCase):
             if isinstance(node, ast.Attribute):
                 self.assertNotIn(node.attr, taken - {"__init__"}, place)
 
+    def test_no_name_is_a_method_here_and_a_value_there(self):
+        methods, values = set(), set()
+        for place, node in self.nodes():
+            if isinstance(node, ast.ClassDef):
+                methods.update(part.name for part in node.body if isinstance(part, ast.FunctionDef))
+            if isinstance(node, ast.Attribute) and isinstance(node.ctx, ast.Store):
+                values.add(node.attr)
+        self.assertTrue(methods and values)
+        self.assertEqual(methods & values, set())
+
     def test_imports_are_the_packages_own(self):
         for place, node in self.nodes():
             if isinstance(node, ast.ImportFrom):

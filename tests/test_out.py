@@ -1,18 +1,16 @@
-"""Promise 3: cw_out."""
+"""Promise 3: cw_out, in every state that a node comes to."""
 
 import unittest
 
-from lowestwins.frames import frame_bits, stuffed
+from helper import BEHIND_ERROR, BETWEEN, CONFIRMED, IDLE, IN_FRAME, IN_TAIL, OFF, OUT, TELLING, WAITING
+from helper import Asked, frame, hear, hearing, idle, send, steps
 from lowestwins.node import answers
-from lowestwins.wire import IDLE, IN_FRAME, IN_TAIL, OFF, TELLING, WAITING, Node
 
 SEND = [1, 5, 1, 1, 0]
 REFUSED = [1, 2048, 0, 0]
 
 
-class OutByCalls(unittest.TestCase):
-    """The states that begin and send reach: it waits, and wants to send or not."""
-
+class AtFirst(unittest.TestCase):
     def test_waiting_and_wanting_nothing(self):
         self.assertEqual(answers([0, 2]), [1, 0, 1, 1])
 
@@ -28,60 +26,68 @@ class OutByCalls(unittest.TestCase):
     def test_begun_anew(self):
         self.assertEqual(answers([0] + SEND + [2, 0, 2]), [1, 0, 1, 0, 1, 1, 1, 0, 1, 1])
 
-    def test_asking_does_not_move_the_node(self):
-        self.assertEqual(answers([0] + SEND + [2] * 50), [1, 0, 1, 0] + [1, 1] * 50)
+
+def put_in(state, node, row):
+    """What the node puts on the wire in each bit of the row before which it is in that state."""
+    return [bit for at, bit, answer in steps(node, row) if at == state]
 
 
-def node_in(state, wanting):
-    node = Node()
-    node.state = state
-    if wanting:
-        node.send(5, 2, [0, 255])
-    return node
-
-
-class OutByState(unittest.TestCase):
-    """What a node puts on the wire in each state, wherever it came from."""
-
+class InEachState(unittest.TestCase):
     def test_idle(self):
-        self.assertEqual(node_in(IDLE, False).out(), 1)
-        self.assertEqual(node_in(IDLE, True).out(), 0)
+        self.assertEqual(idle().ask(OUT), [[1]])
+        self.assertEqual(idle(send(5)).ask(OUT), [[0]])
+        self.assertEqual(idle(send(2048)).ask(OUT), [[1]])
 
     def test_a_sender_within_a_frame_puts_the_next_bit(self):
-        node = node_in(IN_FRAME, True)
-        node.is_sender = True
-        put = []
-        for place in range(len(node.wanted)):
-            node.frame_at = place
-            put.append(node.out())
-        self.assertEqual(put, stuffed(frame_bits(5, [0, 255])))
+        for name, data in ((0, []), (5, [0, 255]), (2047, [255] * 8), (1365, [0] * 8)):
+            row = frame(name, data)
+            self.assertEqual(put_in(IN_FRAME, idle(send(name, data)), row), row[1:])
 
     def test_a_hearer_within_a_frame_puts_1(self):
-        for wanting in (False, True):
-            node = node_in(IN_FRAME, wanting)
-            for place in range(20):
-                node.frame_at = place
-                self.assertEqual(node.out(), 1)
+        for wanting in ([], [send(3)]):
+            row = frame(5, [0, 255])
+            node = idle(hear(0), *wanting)
+            self.assertEqual(put_in(IN_FRAME, node, row[1:]), [1] * (len(row) - 1))
+
+    def test_a_sender_that_is_outdone_puts_1_from_then_on(self):
+        row = frame(0, [0])
+        self.assertEqual(put_in(IN_FRAME, idle(send(2047)), row), [1] * (len(row) - 1))
 
     def test_a_tail_is_0_only_where_a_hearer_confirms(self):
-        for place in range(10):
-            for is_sender in (False, True):
-                for sum_is_right in (False, True):
-                    node = node_in(IN_TAIL, True)
-                    node.tail_at = place
-                    node.is_sender = is_sender
-                    node.sum_is_right = sum_is_right
-                    confirmed = place == 1 and sum_is_right and not is_sender
-                    self.assertEqual(node.out(), 0 if confirmed else 1)
+        row = frame(5, [0, 255])
+        self.assertEqual(put_in(IN_TAIL, idle(), row + CONFIRMED), [1, 0] + [1] * 8)
+        self.assertEqual(put_in(IN_TAIL, idle(hear(0), send(3)), row[1:] + CONFIRMED), [1, 0] + [1] * 8)
+        self.assertEqual(put_in(IN_TAIL, idle(send(2047)), row + CONFIRMED), [1, 0] + [1] * 8)
+        self.assertEqual(put_in(IN_TAIL, idle(send(5, [0, 255])), row + CONFIRMED), [1] * 10)
+        self.assertEqual(put_in(IN_TAIL, idle(), frame(5, [0, 255], wrong=1) + CONFIRMED), [1] * 3)
 
     def test_telling_an_error(self):
-        self.assertEqual(node_in(TELLING, False).out(), 0)
-        self.assertEqual(node_in(TELLING, True).out(), 0)
+        self.assertEqual(put_in(TELLING, idle(), [0] * 6 + BEHIND_ERROR), [0] * 6)
+        self.assertEqual(put_in(TELLING, idle(send(0)), [0, 1] + BEHIND_ERROR), [0] * 6)
 
-    def test_waiting_and_off(self):
-        for state in (WAITING, OFF):
-            for wanting in (False, True):
-                self.assertEqual(node_in(state, wanting).out(), 1)
+    def test_waiting(self):
+        for wanting in ([], [send(3)]):
+            self.assertEqual(put_in(WAITING, Asked(*wanting), [1] * 11), [1] * 11)
+            node = idle(*hearing(frame(5) + CONFIRMED), *wanting)
+            self.assertEqual(put_in(WAITING, node, BETWEEN), [1] * 3)
+            node = idle(*hearing([0] * 6), *wanting)
+            self.assertEqual(put_in(WAITING, node, BEHIND_ERROR), [1] * 11)
+
+    def test_off(self):
+        node = idle(send(0), *hearing(([0, 1] + BEHIND_ERROR) * 32))
+        self.assertEqual(put_in(OFF, node, [0, 1] * 20), [1] * 40)
+
+    def test_asking_does_not_move_the_node(self):
+        nodes = (Asked(send(5)), idle(), idle(send(5)), idle(send(5), hear(0)), idle(*hearing(frame(5) + [1])),
+                 idle(*hearing([0] * 6)))
+        for node in nodes:
+            before = node.all_of_it()
+            self.assertEqual(node.ask(*[OUT] * 50), [[before[1]]] * 50)
+            self.assertEqual(node.all_of_it(), before)
+
+    def test_the_first_0_and_then_the_rest(self):
+        node = idle(send(5))
+        self.assertEqual((node.state(), node.out()), (IDLE, 0))
 
 
 if __name__ == "__main__":
